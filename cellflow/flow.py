@@ -1,0 +1,46 @@
+"""A cell's nine shares and the flow they stand for."""
+
+from cellflow.doubles import HALF, ONE, ONE_AND_A_HALF, THREE, ZERO, add, multiply, opposite, subtract
+
+# The quotients 4/9, 1/9 and 1/36, way by way.
+WEIGHTS = (
+    0x3FDC71C71C71C71C,
+    0x3FBC71C71C71C71C,
+    0x3FBC71C71C71C71C,
+    0x3FBC71C71C71C71C,
+    0x3FBC71C71C71C71C,
+    0x3F9C71C71C71C71C,
+    0x3F9C71C71C71C71C,
+    0x3F9C71C71C71C71C,
+    0x3F9C71C71C71C71C,
+)
+
+
+# How fast the flow goes along each way.
+def speeds(ux, uy):
+    both = add(ux, uy)
+    return (
+        ZERO,
+        ux,
+        uy,
+        opposite(ux),
+        opposite(uy),
+        both,
+        subtract(uy, ux),
+        opposite(both),
+        subtract(ux, uy),
+    )
+
+
+def share_at_rest(weight, rho, speed, u):
+    c = multiply(THREE, speed)
+    linear = add(ONE, c)
+    square = multiply(multiply(HALF, c), c)
+    return multiply(multiply(weight, rho), subtract(add(linear, square), u))
+
+
+# Raises NotFinite where a number on the way is not finite.
+def shares_at_rest(rho, ux, uy):
+    u = multiply(add(multiply(ux, ux), multiply(uy, uy)), ONE_AND_A_HALF)
+    along = speeds(ux, uy)
+    return tuple([share_at_rest(weight, rho, speed, u) for weight, speed in zip(WEIGHTS, along)])
