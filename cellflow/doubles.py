@@ -17,8 +17,8 @@ HIDDEN_BIT = 0x0010000000000000
 
 FRACTION_BITS = 52
 MANTISSA_BITS = 53
-# 1 is two to this many steps.
-STEPS_OF_ONE = 1074
+# In steps, 1 is two to the power of this.
+EXPONENT_OF_ONE = 1074
 # Makes every quotient of two mantissas longer than a mantissa by more than the two bits that rounding looks at.
 QUOTIENT_BITS = 110
 
@@ -89,7 +89,7 @@ def subtract(x, y):
 
 
 def multiply(x, y):
-    power = exponent(x) + exponent(y) - STEPS_OF_ONE
+    power = exponent(x) + exponent(y) - EXPONENT_OF_ONE
     return rounded((x ^ y) & SIGN, mantissa(x) * mantissa(y), power)
 
 
@@ -102,5 +102,5 @@ def divide(x, y):
     if whole * divisor != dividend:
         # The last bit lies far below what is kept: it only tells rounding that this is no tie.
         whole = whole | 1
-    power = exponent(x) - exponent(y) + STEPS_OF_ONE - QUOTIENT_BITS
+    power = exponent(x) - exponent(y) + EXPONENT_OF_ONE - QUOTIENT_BITS
     return rounded((x ^ y) & SIGN, whole, power)

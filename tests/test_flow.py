@@ -69,7 +69,12 @@ class SharesAtRest(unittest.TestCase):
             with self.assertRaises(NotFinite):
                 shares_at_rest(rho, ux, uy)
 
-    def test_a_share_may_be_the_largest_there_is(self):
+    def test_half_of_c_comes_ahead_of_the_other_c(self):
+        # c c is too large here, (0.5 c) c is not.
+        self.assertEqual(len(shares_at_rest(bits(1.0), bits(5e153), 0)), 9)
+        self.check(1.0, 5e153, 0.0)
+
+    def test_the_largest_density_at_rest(self):
         self.assertEqual(len(shares_at_rest(LARGEST, 0, 0)), 9)
 
 
