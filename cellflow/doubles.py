@@ -33,7 +33,9 @@ def is_finite(x):
 
 def exponent(x):
     # Those near 0 have no hidden bit, but the same exponent as the smallest that have one.
-    return max((x & INFINITY) >> FRACTION_BITS, 1) - 1
+    if (x & INFINITY) == 0:
+        return 0
+    return ((x & INFINITY) >> FRACTION_BITS) - 1
 
 
 def mantissa(x):
@@ -42,17 +44,13 @@ def mantissa(x):
     return (x & FRACTION) | HIDDEN_BIT
 
 
-def signed_mantissa(x):
-    if (x & SIGN) != 0:
-        return -mantissa(x)
-    return mantissa(x)
-
-
 # The double nearest to whole * two to the power, in steps; of two as near, the even one. sign is 0 or SIGN.
 def rounded(sign, whole, power):
     if whole == 0:
         return sign
-    spare = max(whole.bit_length() - MANTISSA_BITS, -power)
+    spare = whole.bit_length() - MANTISSA_BITS
+    if spare < -power:
+        spare = -power
     if spare > 0:
         half = 1 << (spare - 1)
         odd = (whole >> spare) & 1
@@ -74,14 +72,21 @@ def opposite(x):
 def add(x, y):
     x_power = exponent(x)
     y_power = exponent(y)
-    power = min(x_power, y_power)
-    total = (signed_mantissa(x) << (x_power - power)) + (signed_mantissa(y) << (y_power - power))
+    x_whole = mantissa(x)
+    # Seen from x's side, so that only y's sign is to be looked at.
+    y_whole = mantissa(y) if ((x ^ y) & SIGN) == 0 else -mantissa(y)
+    if x_power > y_power:
+        power = y_power
+        total = (x_whole << (x_power - y_power)) + y_whole
+    else:
+        power = x_power
+        total = x_whole + (y_whole << (y_power - x_power))
     if total == 0:
         # Two opposite ones make +0; only -0 and -0 make -0.
         return x & y & SIGN
     if total < 0:
-        return rounded(SIGN, -total, power)
-    return rounded(0, total, power)
+        return rounded(y & SIGN, -total, power)
+    return rounded(x & SIGN, total, power)
 
 
 def subtract(x, y):

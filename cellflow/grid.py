@@ -4,9 +4,12 @@ from cellflow.cells import Grid
 
 BEGIN = 0
 WALL = 1
+SET = 2
+STEP = 3
+GET = 4
 
 # How many whole numbers stand behind each call's number.
-GIVEN_COUNTS = {0: 3, 1: 3, 2: 5}
+GIVEN_COUNTS = (3, 3, 5, 1, 2, 0)
 
 
 def answer(grid, number, given):
@@ -14,7 +17,13 @@ def answer(grid, number, given):
         return [grid.begin(given[0], given[1], given[2])]
     if number == WALL:
         return [grid.wall(given[0], given[1], given[2])]
-    return [grid.set_flow(given[0], given[1], given[2], given[3], given[4])]
+    if number == SET:
+        return [grid.set_flow(given[0], given[1], given[2], given[3], given[4])]
+    if number == STEP:
+        return [grid.step(given[0])]
+    if number == GET:
+        return grid.get_flow(given[0], given[1])
+    return grid.mass()
 
 
 def answers(calls):

@@ -1,42 +1,16 @@
-import contextlib
-import io
 import unittest
 
 from cellflow.cells import Grid
 from cellflow.flow import WEIGHTS
-from cellflow.grid import answers
-from tests import floats
-from tests.floats import LARGEST, NOT_FINITE, SIGN, SMALLEST, bits
+from tests import helper
+from tests.helper import (LARGEST, LEAST, MOST, NOT_FINITE, OMEGA, ONE, SIGN, SMALLEST, begin, bits, codes, set_flow,
+                          wall)
 
-ONE = bits(1.0)
-OMEGA = bits(1.7)
-LEAST, MOST = -2147483648, 2147483647
 WRONG_SIDES = (0, 257, -1, LEAST, MOST)
-
-BEGIN, WALL, SET = 0, 1, 2
-
-
-def begin(cols, rows, omega=OMEGA):
-    return [BEGIN, cols, rows, omega]
-
-
-def wall(x, y, on):
-    return [WALL, x, y, on]
-
-
-def set_flow(x, y, rho=ONE, ux=bits(0.1), uy=bits(-0.2)):
-    return [SET, x, y, rho, ux, uy]
-
-
-def codes(*calls):
-    """The answers of calls that are each answered by one number."""
-    told = answers([number for call in calls for number in call])
-    assert told[0::2] == [1] * len(calls), told
-    return told[1::2]
 
 
 def at_rest(rho, ux, uy):
-    return tuple(bits(share) for share in floats.shares_at_rest(rho, ux, uy))
+    return tuple(bits(share) for share in helper.shares_at_rest(rho, ux, uy))
 
 
 def state(grid):
@@ -214,63 +188,6 @@ class SetFlow(unittest.TestCase):
             before = state(grid)
             self.assertEqual(grid.set_flow(*given), code)
             self.assertEqual(state(grid), before)
-
-
-class Unchangeable(list):
-    def refuse(self, *given, **named):
-        raise AssertionError("the list of calls was changed")
-
-    append = extend = insert = pop = remove = clear = reverse = sort = refuse
-    __setitem__ = __delitem__ = __iadd__ = __imul__ = refuse
-
-
-class Interface(unittest.TestCase):
-    LINE = (begin(3, 2) + wall(1, 1, 1) + set_flow(1, 1) + begin(0, 0) + set_flow(3, 0) + wall(0, 0, 2)
-            + set_flow(0, 0, NOT_FINITE[0]) + set_flow(0, 0, ONE, bits(1e200)) + wall(1, 1, 0) + begin(1, 1)
-            + wall(1, 1, 0))
-    ANSWERS = [1, 0, 1, 0, 1, 0, 1, -2, 1, -2, 1, -2, 1, -3, 1, -4, 1, 0, 1, 0, 1, -2]
-
-    def test_answers_come_in_order_with_their_counts(self):
-        self.assertEqual(answers(list(self.LINE)), self.ANSWERS)
-
-    def test_one_call_alone(self):
-        self.assertEqual(answers(begin(1, 1)), [1, 0])
-
-    def test_whole_numbers_in_a_list(self):
-        told = answers(list(self.LINE))
-        self.assertIs(type(told), list)
-        self.assertEqual({type(number) for number in told}, {int})
-
-    def test_400_calls(self):
-        line = begin(256, 256) * 200 + set_flow(255, 255) * 200
-        self.assertEqual(answers(line), [1, 0] * 400)
-
-    def test_what_is_handed_in_is_not_changed(self):
-        line = list(self.LINE)
-        answers(line)
-        self.assertEqual(line, self.LINE)
-        self.assertEqual(answers(Unchangeable(self.LINE)), self.ANSWERS)
-
-    def test_nothing_is_kept(self):
-        line = list(self.LINE)
-        first = answers(line)
-        first.append(9)
-        self.assertEqual(answers(line), self.ANSWERS)
-        answers(begin(9, 9))
-        self.assertEqual(codes(begin(3, 3), wall(8, 8, 1)), [0, -2])
-        self.assertEqual(answers(line), self.ANSWERS)
-
-    def test_grids_share_nothing(self):
-        one, other = grid_of(2, 2), grid_of(2, 2)
-        one.wall(0, 0, 1)
-        one.set_flow(1, 1, ONE, ONE, ONE)
-        self.assertEqual(state(other), state(grid_of(2, 2)))
-
-    def test_nothing_is_printed(self):
-        printed, complained = io.StringIO(), io.StringIO()
-        with contextlib.redirect_stdout(printed), contextlib.redirect_stderr(complained):
-            answers(list(self.LINE))
-        self.assertEqual(printed.getvalue() + complained.getvalue(), "")
 
 
 if __name__ == "__main__":

@@ -4,7 +4,7 @@ import unittest
 from itertools import islice
 
 from cellflow import doubles
-from tests.floats import (LARGEST, LARGEST_SUBNORMAL, NOT_FINITE, SIGN, SMALLEST, SMALLEST_NORMAL, bits,
+from tests.helper import (LARGEST, LARGEST_SUBNORMAL, NOT_FINITE, SIGN, SMALLEST, SMALLEST_NORMAL, bits,
                           pseudo_random_bits, value)
 
 FAILS = "fails"
