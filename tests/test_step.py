@@ -95,6 +95,7 @@ class Count(Checked):
             self.assertEqual(got, want, n)
 
     def test_rounds_that_begin_later(self):
+        self.check_round(1, 1, 1.2, 8, 2, 1)
         self.check_round(1, 1, 1.7, 8, 15, 2)
         self.check_round(1, 1, 1.5, 8, 38, 24)
 
